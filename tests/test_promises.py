@@ -1,0 +1,161 @@
+"""Promises 3 and 4, and the interface, for each function of it."""
+
+import copy
+import importlib
+import inspect
+import itertools
+import unittest
+
+from tests import samples
+from tests.refusal import refused
+from tumblemarks import errors
+
+CORNER = samples.CORNER
+HOME = ((0, 0), samples.LYING)
+MARKS = samples.marks_plain(CORNER)
+
+# Of each function its arguments, in order, each with something that is right.
+FUNCTIONS = {
+    ("floors", "is_floor"): {"thing": CORNER},
+    ("floors", "is_lying"): {"thing": samples.LYING},
+    ("floors", "lying_behind"): {"lying": samples.LYING, "letter": "n"},
+    ("floors", "first_off"): {"floor": CORNER, "cell": (0, 0), "row": "nn"},
+    ("floors", "stand_behind"): {"floor": CORNER, "cell": (0, 0), "lying": samples.LYING, "row": "nse"},
+    ("marks", "marks_behind"): {"floor": CORNER, "stand": HOME, "row": "nse", "marks": MARKS},
+    ("marks", "exchange"): {"floor": CORNER, "stand": HOME, "row": "nse"},
+    ("marks", "rounds"): {"floor": CORNER, "stand": HOME, "row": "nse"},
+    ("marks", "order"): {"floor": CORNER, "stand": HOME, "row": "nse"},
+    ("marks", "is_even"): {"floor": CORNER, "stand": HOME, "row": "nse"},
+}
+
+ANSWERS = {
+    ("floors", "is_floor"): True,
+    ("floors", "is_lying"): True,
+    ("floors", "lying_behind"): (1, 5, 2),
+    ("floors", "first_off"): 1,
+    ("floors", "stand_behind"): ((1, 0), (2, 1, 5)),
+    ("marks", "marks_behind"): (142, 149, 156, 121, 128, 135, 100, 107, 114),
+    ("marks", "exchange"): (6, 7, 8, 3, 4, 5, 0, 1, 2),
+    ("marks", "rounds"): ((0, 6), (1, 7), (2, 8)),
+    ("marks", "order"): 2,
+    ("marks", "is_even"): False,
+}
+
+# Of each function what it refuses, in the interface's order: the argument, the error, and wrong things.
+FLOOR = ("floor", "NoFloor", (None, list(CORNER), CORNER[::-1], (), ((0, 0), (0, True)), CORNER + ((9, 9),)))
+CELL = ("cell", "NoCell", (None, [0, 0], (1, 1), (0, False), (0, 0, 0), 0))
+LYING = ("lying", "NoLying", (None, [0, 1, 2], (0, 2, 1), (0, True, 2), (0, 1)))
+LETTER = ("letter", "NoRoll", (None, "", "ne", "N", ["n"]))
+STAND = ("stand", "NoStand", (None, list(HOME), ((1, 1), (0, 1, 2)), ((0, 0), (0, 2, 1)), ((0, False), (0, 1, 2))))
+ROW = ("row", "NoRow", (None, "nx", "N", ["n"], ("n",), 0))
+SHORT = ("marks", "NoMarks", (None, list(MARKS), MARKS[:-1], MARKS + (0,), MARKS[:-1] + (1000,), (True,) * 9))
+OFF = ("row", "NotLet", ("s", "nn", "wen", "nsnn"))
+REFUSALS = {
+    ("floors", "lying_behind"): (LYING, LETTER),
+    ("floors", "first_off"): (FLOOR, CELL, ROW),
+    ("floors", "stand_behind"): (FLOOR, CELL, LYING, ROW, OFF),
+    ("marks", "marks_behind"): (FLOOR, STAND, ROW, SHORT, OFF),
+    ("marks", "exchange"): (FLOOR, STAND, ROW, OFF),
+    ("marks", "rounds"): (FLOOR, STAND, ROW, OFF),
+    ("marks", "order"): (FLOOR, STAND, ROW, OFF),
+    ("marks", "is_even"): (FLOOR, STAND, ROW, OFF),
+}
+
+
+def found(name):
+    return getattr(importlib.import_module("tumblemarks." + name[0]), name[1])
+
+
+def wrongs(name, many):
+    """Each lot of so many wrong arguments of a function, with the error that is due first."""
+    for lot in itertools.combinations(REFUSALS[name], many):
+        if len({argument for argument, _, _ in lot}) == many:
+            for things in itertools.product(*(wrong for _, _, wrong in lot)):
+                yield lot[0][1], dict(zip((argument for argument, _, _ in lot), things))
+
+
+class Interface(unittest.TestCase):
+    def test_names_and_arguments(self):
+        for name, right in FUNCTIONS.items():
+            told = inspect.signature(found(name)).parameters
+            self.assertEqual(list(told), list(right), name)
+            self.assertEqual({part.default for part in told.values()}, {inspect.Parameter.empty}, name)
+
+    def test_each_is_defined_in_its_file(self):
+        for name in FUNCTIONS:
+            self.assertEqual(found(name).__module__, "tumblemarks." + name[0], name)
+
+
+class HandedIn(unittest.TestCase):
+    def test_at_its_place_or_by_its_name(self):
+        for name, right in FUNCTIONS.items():
+            named = list(right)
+            for many in range(len(named) + 1):
+                ahead = [right[argument] for argument in named[:many]]
+                behind = {argument: right[argument] for argument in reversed(named[many:])}
+                told = found(name)(*ahead, **behind)
+                self.assertEqual(told, ANSWERS[name], (name, many))
+                self.assertIs(type(told), type(ANSWERS[name]), (name, many))
+
+    def test_the_same_asked_again(self):
+        for _ in range(3):
+            for name, right in FUNCTIONS.items():
+                self.assertEqual(found(name)(**right), ANSWERS[name], name)
+
+    def test_right_things_are_as_they_were(self):
+        for name, right in FUNCTIONS.items():
+            kept = copy.deepcopy(right)
+            found(name)(**right)
+            self.assertEqual(repr(right), repr(kept), name)
+
+    def test_refused_things_are_as_they_were(self):
+        for name in REFUSALS:
+            for argument, _, _ in REFUSALS[name]:
+                for thing in samples.odd_things() + [[(0, 1), (0, 0)], [[0, 0], [0, 1, 2]], [3, 2, 1], ["s", "n"]]:
+                    kept = copy.deepcopy(thing)
+                    refused(self, errors_due(name, argument), found(name), **{**FUNCTIONS[name], argument: thing})
+                    self.assertEqual(repr(thing), repr(kept), (name, argument))
+
+    def test_things_told_of_anything_are_as_they_were(self):
+        for name in (("floors", "is_floor"), ("floors", "is_lying")):
+            for thing in samples.floors_wrong() + samples.lyings_wrong():
+                kept = copy.deepcopy(thing)
+                self.assertIs(found(name)(thing), False, (name, thing))
+                self.assertEqual(repr(thing), repr(kept), name)
+                self.assertIs(found(name)(thing), False, (name, thing))
+
+    def test_a_refusal_leaves_no_trace(self):
+        for name in REFUSALS:
+            for _, change in wrongs(name, 1):
+                try:
+                    found(name)(**{**FUNCTIONS[name], **change})
+                except errors.TumbleError:
+                    pass
+                self.assertEqual(found(name)(**FUNCTIONS[name]), ANSWERS[name], (name, change))
+
+
+def errors_due(name, argument):
+    return [getattr(errors, kind) for at, kind, _ in REFUSALS[name] if at == argument][0]
+
+
+class Refusals(unittest.TestCase):
+    def due(self, many):
+        for name in REFUSALS:
+            for kind, change in wrongs(name, many):
+                refused(self, getattr(errors, kind), found(name), **{**FUNCTIONS[name], **change})
+
+    def test_each_alone(self):
+        self.due(1)
+
+    def test_of_two_the_first(self):
+        self.due(2)
+
+    def test_of_three_the_first(self):
+        self.due(3)
+
+    def test_of_four_the_first(self):
+        self.due(4)
+
+
+if __name__ == "__main__":
+    unittest.main()

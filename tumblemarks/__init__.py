@@ -1,0 +1,1 @@
+"""Tumblemarks: a cube that trades its marks with a floor."""
