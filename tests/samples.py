@@ -117,6 +117,84 @@ def marks_wrong(floor):
     ]
 
 
+def odd_but(right):
+    """Things of many kinds without those that are right here, truths and numbers being unlike."""
+    written = {repr(thing) for thing in right}
+    return [thing for thing in odd_things() if repr(thing) not in written]
+
+
+def spots_wrong(floor):
+    """Things that are near to numbers of spots, and none."""
+    many = 6 + len(floor)
+    return odd_but(range(many)) + [
+        many, many + 1, -1, -many, 1000, True, False, None, "0", "6", (0,), [0], (6,), {0: 0}, floor[0], floor, "n",
+    ]
+
+
+def times_wrong():
+    """Things that are near to numbers of times, and none."""
+    return odd_but(range(1001)) + [
+        -1, -2, 1000000000001, 1000000000002, 9999999999999, -1000000000000, True, False, None, "1", "", (1,), [1],
+        (), [], {1: 1}, "1000000000000",
+    ]
+
+
+def looks_wrong(floor, row):
+    """Things that are near to looks at the row, and none."""
+    cell = floor[-1]
+    good = (0, cell, 5)
+    beats = [-1, len(row) + 1, len(row) + 2, None, True, False, "0", (0,), [0], 9999999999999, ""]
+    marks = [-1, 1000, 1001, None, True, False, "5", (5,), [5], 9999999999999, -9999999999999, ""]
+    lots = [(beat, cell, 5) for beat in beats] + [(0, cell, mark) for mark in marks] + [
+        (0, other, 5) for other in cells_wrong(floor)
+    ] + [
+        list(good), good[:2], good[1:], good + (0,), (good,), (cell, 0, 5), (0, 5, cell), (5, cell), (), None, "",
+        0, True, {0: 0, 1: cell, 2: 5}, (0, cell[0], cell[1], 5), (None, None, None),
+    ]
+    put = [(look,) for look in lots] + [(good, look) for look in lots] + [(look, good) for look in lots]
+    return odd_but([()]) + put + [
+        good, [good], [], list((good,) * 12), (good,) * 13, (good,) * 14, (good,) * 24, {}, {0: good}, {good: good}, "",
+        (good,) * 11 + (None,), ((good,),), ((good, good),),
+    ]
+
+
+def watched_wrong(floor):
+    """Things that are near to rising tuples of cells of the floor, and none."""
+    first = floor[0]
+    near = [first, [first], [], list(floor), (list(first),), (first, first), floor + floor[-1:], floor[:1] + floor]
+    near += [{}, {first: first}, "", (floor,), ((first,),), (None,), (first, None), (None, first), (first + (0,),)]
+    near += [floor[::-1]] if len(floor) > 1 else []
+    near += [(cell,) for cell in cells_wrong(floor)] + [floor[:-1] + (cell,) for cell in cells_wrong(floor)]
+    return odd_but([()]) + near
+
+
+# What is put in the place of a part, or beside it, where a thing that was told is to be spoilt.
+PARTS = (0, 1, 6, -1, 999, 1000, True, False, None, "", "n", "row", "never", "first", "clash", (), [], {}, (0,), [0])
+
+
+def spoilt(thing, deep=3):
+    """What was told with one part otherwise, left out, twice or put in, anywhere in it."""
+    if type(thing) is str:
+        for at in range(len(thing) + 1):
+            for sign in ("n", "e", "s", "w", "x", " "):
+                yield thing[:at] + sign + thing[at:]
+                yield thing[:at] + sign + thing[at + 1:]
+            yield thing[:at] + thing[at + 1:]
+    if type(thing) is not tuple or deep == 0:
+        return
+    yield list(thing)
+    for at in range(len(thing) + 1):
+        for part in PARTS:
+            yield thing[:at] + (part,) + thing[at:]
+            yield thing[:at] + (part,) + thing[at + 1:]
+        yield thing[:at] + thing[at + 1:]
+        yield thing[:at] + thing[at:at + 1] + thing[at:]
+        yield thing[:at] + thing[at:at + 2][::-1] + thing[at + 2:]
+    for at, part in enumerate(thing):
+        for other in spoilt(part, deep - 1):
+            yield thing[:at] + (other,) + thing[at + 1:]
+
+
 def marks_plain(floor):
     """Marks that are all unlike, none of them the number of its spot."""
     return tuple(100 + 7 * spot for spot in range(6 + len(floor)))
@@ -145,6 +223,19 @@ def let_row(chance, floor, cell, most):
         row += letter
         cell = model.step(cell, letter)
     return row
+
+
+def round_walks(many):
+    """Tuples (floor, cell, lying, row), the same at each call, the row ending where it began."""
+    walks = []
+    for floor, cell, how, row in long_walks(many):
+        for at in range(0, len(row) + 1, 1 + len(row) // 4):
+            there = model.play(floor, cell, how, row[:at], (0,) * 15)[1]
+            back = model.least_rows(floor, (there[0], LYING))
+            home = min(back[stand] for stand in back if stand[0] == cell)
+            if at + len(home) <= 60:
+                walks.append((floor, cell, how, row[:at] + home))
+    return walks
 
 
 def long_walks(many):

@@ -13,6 +13,10 @@ from tumblemarks import errors
 CORNER = samples.CORNER
 HOME = ((0, 0), samples.LYING)
 MARKS = samples.marks_plain(CORNER)
+NORTH = ((0, 1), (1, 5, 2))
+EAST = ((1, 0), (2, 1, 5))
+LOOKS = ((0, (0, 1), 7), (1, (0, 1), 9), (3, (1, 0), 4))
+FIRST = ("first", (None, 9, 4, None, None, None, None, 7, None))
 
 # Of each function its arguments, in order, each with something that is right.
 FUNCTIONS = {
@@ -26,6 +30,19 @@ FUNCTIONS = {
     ("marks", "rounds"): {"floor": CORNER, "stand": HOME, "row": "nse"},
     ("marks", "order"): {"floor": CORNER, "stand": HOME, "row": "nse"},
     ("marks", "is_even"): {"floor": CORNER, "stand": HOME, "row": "nse"},
+    ("ways", "way"): {"floor": CORNER, "one": NORTH, "other": EAST},
+    ("again", "how_often"): {"floor": CORNER, "cell": (0, 0), "row": "n"},
+    ("again", "stand_far"): {"floor": CORNER, "stand": HOME, "row": "nsew", "times": 5},
+    ("again", "exchange_far"): {"floor": CORNER, "stand": HOME, "row": "nsew", "times": 5},
+    ("again", "round_of"): {"floor": CORNER, "stand": HOME, "row": "nsew"},
+    ("wishes", "bring"): {"floor": CORNER, "stand": HOME, "spot": 0, "to": 6},
+    ("wishes", "shows_bring"): {"floor": CORNER, "stand": HOME, "spot": 0, "to": 6, "thing": ("row", "ns")},
+    ("wishes", "may_come"): {"floor": CORNER, "stand": HOME, "spot": 2},
+    ("wishes", "still"): {"floor": CORNER, "stand": HOME},
+    ("looks", "looked"): {"floor": CORNER, "stand": HOME, "row": "nse", "looks": LOOKS},
+    ("looks", "shows_looked"): {"floor": CORNER, "stand": HOME, "row": "nse", "looks": LOOKS, "thing": FIRST},
+    ("looks", "seen_spots"): {"floor": CORNER, "stand": HOME, "row": "nsew", "cells": ((0, 1), (1, 0))},
+    ("looks", "seen_first"): {"floor": CORNER, "stand": HOME, "row": "nsew", "cells": ((1, 0),), "spot": 2},
 }
 
 ANSWERS = {
@@ -39,6 +56,19 @@ ANSWERS = {
     ("marks", "rounds"): ((0, 6), (1, 7), (2, 8)),
     ("marks", "order"): 2,
     ("marks", "is_even"): False,
+    ("ways", "way"): "se",
+    ("again", "how_often"): 1,
+    ("again", "stand_far"): HOME,
+    ("again", "exchange_far"): (0, 7, 8, 3, 4, 5, 6, 1, 2),
+    ("again", "round_of"): 2,
+    ("wishes", "bring"): ("row", "ew"),
+    ("wishes", "shows_bring"): True,
+    ("wishes", "may_come"): (2, 8),
+    ("wishes", "still"): (3, 4, 5),
+    ("looks", "looked"): FIRST,
+    ("looks", "shows_looked"): True,
+    ("looks", "seen_spots"): (1, 2, 7, 8),
+    ("looks", "seen_first"): 3,
 }
 
 # Of each function what it refuses, in the interface's order: the argument, the error, and wrong things.
@@ -50,6 +80,14 @@ STAND = ("stand", "NoStand", (None, list(HOME), ((1, 1), (0, 1, 2)), ((0, 0), (0
 ROW = ("row", "NoRow", (None, "nx", "N", ["n"], ("n",), 0))
 SHORT = ("marks", "NoMarks", (None, list(MARKS), MARKS[:-1], MARKS + (0,), MARKS[:-1] + (1000,), (True,) * 9))
 OFF = ("row", "NotLet", ("s", "nn", "wen", "nsnn"))
+ENDS = ("row", "NotLet", ("s", "we", "n", "nse"))
+ONE = ("one", "NoStand", STAND[2])
+OTHER = ("other", "NoStand", STAND[2])
+TIMES = ("times", "NoTimes", (None, -1, 1000000000001, True, "5", (5,)))
+SPOT = ("spot", "NoSpot", (None, -1, 9, True, "2", (2,)))
+TO = ("to", "NoSpot", SPOT[2])
+BLIND = ("looks", "NoLooks", (None, list(LOOKS), LOOKS * 5, ((4, (0, 1), 7),), ((0, (1, 1), 7),), ((0, (0, 1), 1000),)))
+CELLS = ("cells", "NoCells", (None, [(0, 1)], ((0, 1), (0, 1)), ((1, 0), (0, 1)), ((1, 1),), ((0, True),)))
 REFUSALS = {
     ("floors", "lying_behind"): (LYING, LETTER),
     ("floors", "first_off"): (FLOOR, CELL, ROW),
@@ -59,7 +97,23 @@ REFUSALS = {
     ("marks", "rounds"): (FLOOR, STAND, ROW, OFF),
     ("marks", "order"): (FLOOR, STAND, ROW, OFF),
     ("marks", "is_even"): (FLOOR, STAND, ROW, OFF),
+    ("ways", "way"): (FLOOR, ONE, OTHER),
+    ("again", "how_often"): (FLOOR, CELL, ROW),
+    ("again", "stand_far"): (FLOOR, STAND, ROW, TIMES, ENDS),
+    ("again", "exchange_far"): (FLOOR, STAND, ROW, TIMES, ENDS),
+    ("again", "round_of"): (FLOOR, STAND, ROW, ENDS),
+    ("wishes", "bring"): (FLOOR, STAND, SPOT, TO),
+    ("wishes", "shows_bring"): (FLOOR, STAND, SPOT, TO),
+    ("wishes", "may_come"): (FLOOR, STAND, SPOT),
+    ("wishes", "still"): (FLOOR, STAND),
+    ("looks", "looked"): (FLOOR, STAND, ROW, OFF, BLIND),
+    ("looks", "shows_looked"): (FLOOR, STAND, ROW, OFF, BLIND),
+    ("looks", "seen_spots"): (FLOOR, STAND, ROW, CELLS, ENDS),
+    ("looks", "seen_first"): (FLOOR, STAND, ROW, CELLS, SPOT, ENDS),
 }
+
+# Of some arguments what is among the things of many kinds, and right.
+RIGHT = {"spot": range(9), "to": range(9), "times": range(1001), "looks": [()], "cells": [()]}
 
 
 def found(name):
@@ -111,18 +165,20 @@ class HandedIn(unittest.TestCase):
     def test_refused_things_are_as_they_were(self):
         for name in REFUSALS:
             for argument, _, _ in REFUSALS[name]:
-                for thing in samples.odd_things() + [[(0, 1), (0, 0)], [[0, 0], [0, 1, 2]], [3, 2, 1], ["s", "n"]]:
+                lists = [[(0, 1), (0, 0)], [[0, 0], [0, 1, 2]], [3, 2, 1], ["s", "n"], [[3, 2], [1, 0]]]
+                for thing in samples.odd_but(RIGHT.get(argument, ())) + lists:
                     kept = copy.deepcopy(thing)
                     refused(self, errors_due(name, argument), found(name), **{**FUNCTIONS[name], argument: thing})
                     self.assertEqual(repr(thing), repr(kept), (name, argument))
 
     def test_things_told_of_anything_are_as_they_were(self):
-        for name in (("floors", "is_floor"), ("floors", "is_lying")):
-            for thing in samples.floors_wrong() + samples.lyings_wrong():
-                kept = copy.deepcopy(thing)
-                self.assertIs(found(name)(thing), False, (name, thing))
-                self.assertEqual(repr(thing), repr(kept), name)
-                self.assertIs(found(name)(thing), False, (name, thing))
+        for name in FUNCTIONS:
+            if "thing" in FUNCTIONS[name]:
+                for thing in samples.floors_wrong() + samples.lyings_wrong() + lists_told():
+                    kept = copy.deepcopy(thing)
+                    for _ in range(2):
+                        self.assertIs(found(name)(**{**FUNCTIONS[name], "thing": thing}), False, (name, thing))
+                        self.assertEqual(repr(thing), repr(kept), name)
 
     def test_a_refusal_leaves_no_trace(self):
         for name in REFUSALS:
@@ -134,8 +190,44 @@ class HandedIn(unittest.TestCase):
                 self.assertEqual(found(name)(**FUNCTIONS[name]), ANSWERS[name], (name, change))
 
 
+def lists_told():
+    """Near to what is told, but with lists, and not rising, so that putting them right would show."""
+    lots = [[(1, 0), (2, 1, 5), 2], [(0, 0), (0, 1, 2), 2]]
+    return [
+        ["row", "ns"], ("row", ["n", "s"]), ["never", lots], ("never", lots), ("never", tuple(lots)),
+        ["first", list(FIRST[1])], ("first", list(FIRST[1])), ["clash", 1, 0], ("clash", [1, 0]),
+    ]
+
+
 def errors_due(name, argument):
     return [getattr(errors, kind) for at, kind, _ in REFUSALS[name] if at == argument][0]
+
+
+class ToldAndHandedIn(unittest.TestCase):
+    def test_what_was_told_is_answered_or_refused_at_each_place(self):
+        told = list(ANSWERS.values())
+        told += [found(("wishes", "bring"))(samples.SQUARE, HOME, 0, 3), found(("wishes", "bring"))(CORNER, HOME, 2, 0)]
+        told += [found(("looks", "looked"))(CORNER, HOME, "n", ((0, (0, 0), 1), (1, (0, 0), 2)))]
+        told += [part for thing in told if type(thing) is tuple for part in thing]
+        for name, right in FUNCTIONS.items():
+            kinds = tuple(getattr(errors, kind) for _, kind, _ in REFUSALS.get(name, ()))
+            for argument in right:
+                for thing in told:
+                    try:
+                        found(name)(**{**right, argument: thing})
+                    except kinds:
+                        pass
+
+    def test_rows_that_were_told(self):
+        far = found(("ways", "way"))(samples.NINE, HOME, ((2, 2), (3, 5, 1)))
+        back = found(("ways", "way"))(samples.NINE, ((2, 2), (3, 5, 1)), HOME)
+        word, row = found(("wishes", "bring"))(samples.NINE, HOME, 3, 14)
+        self.assertEqual(word, "row")
+        self.assertEqual(found(("floors", "stand_behind"))(samples.NINE, *HOME, far + back), HOME)
+        self.assertEqual(found(("marks", "exchange"))(samples.NINE, HOME, row)[3], 14)
+        many = found(("again", "round_of"))(samples.NINE, HOME, far + back)
+        behind = found(("again", "exchange_far"))(samples.NINE, HOME, far + back, many)
+        self.assertEqual(behind, tuple(range(15)))
 
 
 class Refusals(unittest.TestCase):
@@ -155,6 +247,9 @@ class Refusals(unittest.TestCase):
 
     def test_of_four_the_first(self):
         self.due(4)
+
+    def test_of_five_the_first(self):
+        self.due(5)
 
 
 if __name__ == "__main__":

@@ -142,6 +142,11 @@ def rolled_stand(stand, letter):
     return (rolled_cell(cell, letter), rolled_lying(lying, letter))
 
 
+def let_letters(floor, cell):
+    """Tell the letters, in rising order, of the rolls that lead from the cell to one of the floor."""
+    return [letter for letter in sorted(LETTERS) if rolled_cell(cell, letter) in floor]
+
+
 def place_off(floor, cell, row):
     """Tell the first place of a roll that leads off the floor, None where the row is let."""
     here = cell

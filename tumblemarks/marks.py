@@ -1,6 +1,6 @@
 """What a row does to the marks of the cube and of the floor."""
 
-from tumblemarks.errors import NoMarks
+from tumblemarks.errors import NoMarks, NoSpot
 from tumblemarks.floors import is_whole, need_floor, need_let, need_row, need_stand, rolled_stand
 
 FACES = 6
@@ -10,6 +10,16 @@ MOST_MARK = 999
 def spots_of(floor):
     """Tell the numbers of all spots: the faces, then the cells in order."""
     return tuple(range(FACES + len(floor)))
+
+
+def spot_of_cell(floor, cell):
+    """Tell the number of the spot that a cell of the floor is."""
+    return FACES + floor.index(cell)
+
+
+def is_spot(floor, thing):
+    """Tell of anything whether it is the number of a spot."""
+    return is_whole(thing, FACES + len(floor) - 1)
 
 
 def is_marks(floor, thing):
@@ -25,14 +35,35 @@ def need_marks(floor, marks):
         raise NoMarks()
 
 
+def need_spot(floor, spot):
+    """Refuse what is no number of a spot."""
+    if not is_spot(floor, spot):
+        raise NoSpot()
+
+
+def trade_at(floor, stand):
+    """Tell the two spots whose marks a roll exchanges that leads to this stand."""
+    cell, lying = stand
+    return (lying[0], spot_of_cell(floor, cell))
+
+
+def traded_spot(trade, spot):
+    """Tell the spot to which a trade of two spots brings the mark of this one."""
+    one, other = trade
+    if spot == one:
+        return other
+    if spot == other:
+        return one
+    return spot
+
+
 def trades(floor, stand, row):
     """Tell, for each roll, the spots of the lowest face and of the cell below it behind it."""
     traded = []
     here = stand
     for letter in row:
         here = rolled_stand(here, letter)
-        cell, lying = here
-        traded.append((lying[0], FACES + floor.index(cell)))
+        traded.append(trade_at(floor, here))
     return traded
 
 
