@@ -13,6 +13,7 @@ SQUARE = ((0, 0), (0, 1), (1, 0), (1, 1))
 RING = ((1, 1), (1, 2), (1, 3), (2, 1), (2, 3), (3, 1), (3, 2), (3, 3))
 NINE = ((0, 0), (0, 1), (0, 2), (1, 0), (1, 1), (1, 2), (2, 0), (2, 1), (2, 2))
 SPREAD = ((0, 0), (0, 3), (1, 1), (1, 2), (2, 0), (3, 0), (3, 3))
+BACK = {"n": "s", "e": "w", "s": "n", "w": "e"}
 FLOORS = (DOT, LINE, POST, CORNER, SQUARE, RING, NINE, SPREAD)
 
 
@@ -166,6 +167,34 @@ def watched_wrong(floor):
     near += [floor[::-1]] if len(floor) > 1 else []
     near += [(cell,) for cell in cells_wrong(floor)] + [floor[:-1] + (cell,) for cell in cells_wrong(floor)]
     return odd_but([()]) + near
+
+
+def pairs_wrong(floor):
+    """Things that are near to pairs of the floor, which has two cells or more, and none."""
+    one = (floor[0], LYING)
+    other = (floor[-1], (4, 5, 3))
+    return odd_things() + [(stand, other) for stand in stands_wrong(floor)] + [
+        (one, stand) for stand in stands_wrong(floor)
+    ] + [
+        (one, one), (other, other), (one, (floor[0], (4, 5, 3))), (other, (floor[-1], LYING)), [one, other], (one,),
+        (one, other, one), (one, other, 0), one, one + other, ((one, other),), {0: one, 1: other}, {one: other},
+        (one, None), (list(one), other), (one, list(other)), (floor[0], floor[-1]), (LYING, (4, 5, 3)), ((), ()),
+    ]
+
+
+def turns_wrong():
+    """Things that are near to turns, and none."""
+    good = (0, "n")
+    cubes = [2, -1, None, True, False, "0", "", (0,), [0], 9999999999999, "n"]
+    lots = [(cube, "n") for cube in cubes] + [(1, letter) for letter in letters_wrong()] + [
+        ("n", 0), (0,), ("n",), (0, "n", 0), (0, "n", "n"), [0, "n"], {0: "n"}, (0, 1, "n"), "0n", "n", 0, None, True,
+        (), (good,), ((0, "n"), 1),
+    ]
+    put = [(turn,) for turn in lots] + [(good, turn) for turn in lots] + [(turn, good) for turn in lots]
+    return odd_but([()]) + put + [
+        good, [good], [], [good, good], (good,) * 25, (good,) * 26, (good,) * 48, {}, {0: "n"}, {good: good}, "", "n",
+        (good,) * 23 + (None,), (good,) * 24 + (None,), ((good,),), ((good, good),), (0, "n", 1, "s"),
+    ]
 
 
 # What is put in the place of a part, or beside it, where a thing that was told is to be spoilt.

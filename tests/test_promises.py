@@ -17,6 +17,8 @@ NORTH = ((0, 1), (1, 5, 2))
 EAST = ((1, 0), (2, 1, 5))
 LOOKS = ((0, (0, 1), 7), (1, (0, 1), 9), (3, (1, 0), 4))
 FIRST = ("first", (None, 9, 4, None, None, None, None, 7, None))
+PAIR = (NORTH, EAST)
+TURNS = ((0, "s"), (0, "n"), (1, "w"))
 
 # Of each function its arguments, in order, each with something that is right.
 FUNCTIONS = {
@@ -43,6 +45,19 @@ FUNCTIONS = {
     ("looks", "shows_looked"): {"floor": CORNER, "stand": HOME, "row": "nse", "looks": LOOKS, "thing": FIRST},
     ("looks", "seen_spots"): {"floor": CORNER, "stand": HOME, "row": "nsew", "cells": ((0, 1), (1, 0))},
     ("looks", "seen_first"): {"floor": CORNER, "stand": HOME, "row": "nsew", "cells": ((1, 0),), "spot": 2},
+    ("rows", "apart"): {"floor": CORNER, "stand": HOME, "one": "ns", "other": "ew"},
+    ("rows", "shortest"): {"floor": CORNER, "stand": HOME, "row": "nsew"},
+    ("rows", "does_undo"): {"floor": CORNER, "stand": HOME, "row": "n", "other": "sns"},
+    ("rows", "undoing"): {"floor": CORNER, "stand": HOME, "row": ""},
+    ("pairs", "first_stop"): {"floor": CORNER, "pair": PAIR, "turns": ((0, "s"), (1, "w"))},
+    ("pairs", "pair_behind"): {"floor": CORNER, "pair": PAIR, "turns": TURNS},
+    ("pairs", "exchange_two"): {"floor": CORNER, "pair": PAIR, "turns": TURNS},
+    ("traces", "least_turns"): {"floor": CORNER, "pair": PAIR, "turns": TURNS},
+    ("traces", "how_many"): {"floor": CORNER, "pair": PAIR, "turns": TURNS},
+    ("traces", "come_of"): {"floor": CORNER, "pair": PAIR, "one": TURNS, "other": TURNS[2:]},
+    ("mending", "left_out"): {"floor": CORNER, "cell": (0, 0), "row": "nes"},
+    ("mending", "mends"): {"floor": CORNER, "cell": (0, 0), "row": "nes", "thing": (1,)},
+    ("mending", "cells_more"): {"floor": CORNER, "cell": (0, 0), "row": "nes"},
 }
 
 ANSWERS = {
@@ -69,6 +84,19 @@ ANSWERS = {
     ("looks", "shows_looked"): True,
     ("looks", "seen_spots"): (1, 2, 7, 8),
     ("looks", "seen_first"): 3,
+    ("rows", "apart"): ("marks", 1, 7, 1),
+    ("rows", "shortest"): "ewns",
+    ("rows", "does_undo"): True,
+    ("rows", "undoing"): "",
+    ("pairs", "first_stop"): 1,
+    ("pairs", "pair_behind"): (NORTH, HOME),
+    ("pairs", "exchange_two"): (6, 13, 2, 3, 4, 5, 12, 7, 8, 9, 10, 11, 0, 1, 14),
+    ("traces", "least_turns"): TURNS,
+    ("traces", "how_many"): 1,
+    ("traces", "come_of"): False,
+    ("mending", "left_out"): (1,),
+    ("mending", "mends"): True,
+    ("mending", "cells_more"): ((1, 1),),
 }
 
 # Of each function what it refuses, in the interface's order: the argument, the error, and wrong things.
@@ -88,6 +116,17 @@ SPOT = ("spot", "NoSpot", (None, -1, 9, True, "2", (2,)))
 TO = ("to", "NoSpot", SPOT[2])
 BLIND = ("looks", "NoLooks", (None, list(LOOKS), LOOKS * 5, ((4, (0, 1), 7),), ((0, (1, 1), 7),), ((0, (0, 1), 1000),)))
 CELLS = ("cells", "NoCells", (None, [(0, 1)], ((0, 1), (0, 1)), ((1, 0), (0, 1)), ((1, 1),), ((0, True),)))
+ONE_ROW = ("one", "NoRow", ROW[2])
+OTHER_ROW = ("other", "NoRow", ROW[2])
+PAIRS = ("pair", "NoPair", (None, list(PAIR), (NORTH, NORTH), (NORTH, ((1, 1), (0, 1, 2))), (NORTH,), PAIR + (HOME,)))
+BAD_TURNS = (None, list(TURNS), TURNS * 9, ((2, "n"),), ((True, "n"),), ((0, "x"),), ((0, "n", 0),), ("0n",))
+TURNED = ("turns", "NoTurns", BAD_TURNS)
+ONE_TURNS = ("one", "NoTurns", BAD_TURNS)
+OTHER_TURNS = ("other", "NoTurns", BAD_TURNS)
+STOPPED = (((0, "n"),), ((0, "s"), (1, "w")), ((0, "s"), (0, "e")), TURNS + ((0, "s"),))
+STOP = ("turns", "NotLet", STOPPED)
+ONE_STOP = ("one", "NotLet", STOPPED)
+OTHER_STOP = ("other", "NotLet", STOPPED)
 REFUSALS = {
     ("floors", "lying_behind"): (LYING, LETTER),
     ("floors", "first_off"): (FLOOR, CELL, ROW),
@@ -110,10 +149,26 @@ REFUSALS = {
     ("looks", "shows_looked"): (FLOOR, STAND, ROW, OFF, BLIND),
     ("looks", "seen_spots"): (FLOOR, STAND, ROW, CELLS, ENDS),
     ("looks", "seen_first"): (FLOOR, STAND, ROW, CELLS, SPOT, ENDS),
+    ("rows", "apart"): (FLOOR, STAND, ONE_ROW, OTHER_ROW),
+    ("rows", "shortest"): (FLOOR, STAND, ROW, OFF),
+    ("rows", "does_undo"): (FLOOR, STAND, ROW, OTHER_ROW, OFF),
+    ("rows", "undoing"): (FLOOR, STAND, ROW, OFF),
+    ("pairs", "first_stop"): (FLOOR, PAIRS, TURNED),
+    ("pairs", "pair_behind"): (FLOOR, PAIRS, TURNED, STOP),
+    ("pairs", "exchange_two"): (FLOOR, PAIRS, TURNED, STOP),
+    ("traces", "least_turns"): (FLOOR, PAIRS, TURNED, STOP),
+    ("traces", "how_many"): (FLOOR, PAIRS, TURNED, STOP),
+    ("traces", "come_of"): (FLOOR, PAIRS, ONE_TURNS, OTHER_TURNS, ONE_STOP, OTHER_STOP),
+    ("mending", "left_out"): (FLOOR, CELL, ROW),
+    ("mending", "mends"): (FLOOR, CELL, ROW),
+    ("mending", "cells_more"): (FLOOR, CELL, ROW),
 }
 
 # Of some arguments what is among the things of many kinds, and right.
-RIGHT = {"spot": range(9), "to": range(9), "times": range(1001), "looks": [()], "cells": [()]}
+RIGHT = {
+    "spot": range(9), "to": range(9), "times": range(1001), "looks": [()], "cells": [()], "turns": [()], "one": [()],
+    "other": [()],
+}
 
 
 def found(name):

@@ -33,6 +33,11 @@ def is_cell(thing):
     return is_whole(column, LAST_LINE) and is_whole(line, LAST_LINE)
 
 
+def every_cell():
+    """Tell all cells that a floor may have, in rising order."""
+    return [(column, line) for column in range(LAST_LINE + 1) for line in range(LAST_LINE + 1)]
+
+
 def is_rising(things):
     """Tell whether each thing is greater than the one ahead."""
     return all([one < other for one, other in zip(things, things[1:])])

@@ -67,12 +67,24 @@ def trades(floor, stand, row):
     return traded
 
 
+def held_traded(traded, held):
+    """Tell what each spot holds behind some trades of two spots each, of what each held at first."""
+    now = list(held)
+    for one, other in traded:
+        now[one], now[other] = now[other], now[one]
+    return tuple(now)
+
+
 def held_behind(floor, stand, row, held):
     """Tell what each spot holds behind the row, of what each held at first."""
-    now = list(held)
-    for face, below in trades(floor, stand, row):
-        now[face], now[below] = now[below], now[face]
-    return tuple(now)
+    return held_traded(trades(floor, stand, row), held)
+
+
+def exchange_by(traded, spots):
+    """Tell the exchange of all spots that some trades are, one behind the other."""
+    origins = held_traded(traded, spots)
+    # This tells from where each mark came; asked for is to where each went.
+    return tuple([origins.index(spot) for spot in spots])
 
 
 def round_from(exchanged, first):
@@ -115,10 +127,7 @@ def exchange(floor, stand, row):
     need_stand(floor, stand)
     need_row(row)
     need_let(floor, stand[0], row)
-    spots = spots_of(floor)
-    origins = held_behind(floor, stand, row, spots)
-    # This tells from where each mark came; asked for is to where each went.
-    return tuple([origins.index(spot) for spot in spots])
+    return exchange_by(trades(floor, stand, row), spots_of(floor))
 
 
 def rounds(floor, stand, row):

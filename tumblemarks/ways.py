@@ -3,16 +3,17 @@
 from tumblemarks.floors import let_letters, need_floor, need_stand, rolled_stand
 
 
-def reached(floor, start, rolled):
+def reached(floor, start, rolled, most=None):
     """Tell all to which rows lead from start, each with the shortest row, of as short ones the least.
 
     The first part of start is the cube's cell; rolled tells what a roll that is let makes of such a thing.
+    Where most is a number, only rows of at most so many rolls count.
     """
     rows = {start: ""}
     edge = [start]
     # The rows of an edge are as long as each other and rise, and so do the letters: so of as short rows that lead
     # to one thing the least comes first, and what is told is in the order of its rows.
-    while edge:
+    while edge and (most is None or len(rows[edge[0]]) < most):
         found = []
         for here in edge:
             for letter in let_letters(floor, here[0]):
