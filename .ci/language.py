@@ -5,6 +5,7 @@ It ends with 1, and a line for each breach, where it finds one. What it cannot s
 
 import ast
 import builtins
+import functools
 import pathlib
 import re
 import sys
@@ -35,7 +36,25 @@ BARRED = set(
 AT_MODULE_LEVEL = (ast.ImportFrom, ast.FunctionDef, ast.ClassDef, ast.Assign)
 NOT_ALLOWED = (
     ast.Global, ast.AsyncFunctionDef, ast.AsyncFor, ast.AsyncWith, ast.Await, ast.Import, ast.Div, ast.MatMult,
+    # Allowed here and there; the package does without them, which is simpler than to say where.
+    ast.GeneratorExp, ast.Set, ast.SetComp, ast.Yield, ast.YieldFrom, ast.NamedExpr, ast.Try, ast.With, ast.Match,
 )
+DUNDERS = ("__init__", "__eq__", "__repr__", "__str__", "__len__")
+MARKED = ("__eq__", "__repr__", "__str__", "__len__")
+# L26: what may be the name of an own method although values of Python's own have one of that name.
+OWN_METHODS = METHODS & set(
+    "append clear copy count endswith extend find get index insert isalnum isalpha isdigit islower isspace isupper"
+    " items join keys ljust lower lstrip partition pop remove replace reverse rfind rjust rpartition rsplit rstrip"
+    " setdefault split splitlines startswith strip update upper values zfill bit_length add discard".split()
+)
+OWN_ATTRIBUTES = set("count index title find get join lower upper split strip copy add".split())
+OF_VALUES = {name for kind in (str, int, list, dict, set, bytes, tuple) for name in dir(kind)}
+AT_ONCE = set("zip enumerate reversed range items keys values".split())
+TAKES_AT_ONCE = set("list tuple dict sorted sum any all enumerate zip min max join".split())
+KEYWORDS = {
+    "sorted": {"key", "reverse"}, "min": {"key", "default"}, "max": {"key", "default"}, "sum": {"start"},
+    "enumerate": {"start"}, "zip": {"strict"},
+}
 
 
 def is_docstring(node):
@@ -101,10 +120,7 @@ def bound_names(tree):
 
 
 def name_breaches(tree):
-    methods = {
-        part.name for node in ast.walk(tree) if isinstance(node, ast.ClassDef)
-        for part in node.body if isinstance(part, ast.FunctionDef)
-    }
+    methods, _ = own_names()
     imported = {
         name.asname or name.name for node in tree.body if isinstance(node, ast.ImportFrom) for name in node.names
     }
@@ -121,6 +137,107 @@ def name_breaches(tree):
         if isinstance(node, ast.Call) and isinstance(node.func, ast.Attribute):
             if node.func.attr not in METHODS | methods:
                 yield node.lineno, f"L25 method {node.func.attr}"
+
+
+def trees():
+    return [ast.parse(path.read_text()) for path in sorted(PACKAGE.glob("*.py"))]
+
+
+@functools.lru_cache(maxsize=None)
+def own_names():
+    """The names of all methods and of all attributes that the package assigns."""
+    nodes = [node for tree in trees() for node in ast.walk(tree)]
+    methods = {
+        part.name for node in nodes if isinstance(node, ast.ClassDef)
+        for part in node.body if isinstance(part, ast.FunctionDef)
+    }
+    attributes = {node.attr for node in nodes if isinstance(node, ast.Attribute) and isinstance(node.ctx, ast.Store)}
+    return methods, attributes
+
+
+def clash_breaches():
+    methods, attributes = own_names()
+    for name in sorted(methods & attributes):
+        yield 0, f"L18 {name} is a method and an attribute"
+    for name in sorted(name for name in methods - set(DUNDERS) if name in OF_VALUES - OWN_METHODS):
+        yield 0, f"L26 method {name}"
+    for name in sorted(name for name in attributes if name in OF_VALUES - OWN_ATTRIBUTES):
+        yield 0, f"L26 attribute {name}"
+
+
+def attribute_breaches(tree):
+    _, attributes = own_names()
+    called = {id(node.func) for node in ast.walk(tree) if isinstance(node, ast.Call)}
+    for node in ast.walk(tree):
+        if isinstance(node, ast.Attribute) and id(node) not in called and node.attr not in attributes:
+            yield node.lineno, f"L18 attribute {node.attr} is not assigned, or a method is passed on"
+        if isinstance(node, ast.ClassDef):
+            yield from class_breaches(node)
+
+
+def class_breaches(node):
+    names = [part.name for part in node.body if isinstance(part, ast.FunctionDef)]
+    if len(names) > len(set(names)):
+        yield node.lineno, "L18 method defined twice"
+    for part in node.body:
+        if not isinstance(part, ast.FunctionDef) and not is_docstring(part):
+            yield part.lineno, "L5 statement in a class"
+        if isinstance(part, ast.FunctionDef) and part.name.startswith("__"):
+            yield from dunder_breaches(part)
+
+
+def dunder_breaches(node):
+    if node.name not in DUNDERS:
+        yield node.lineno, f"L5 method {node.name}"
+    if node.name in MARKED:
+        if len(node.body) != 1 or not isinstance(node.body[0], ast.Return):
+            yield node.lineno, f"L28 {node.name} is more than a return"
+    elif any(isinstance(part, ast.Return) for part in ast.walk(node)):
+        yield node.lineno, "L28 __init__ returns something"
+
+
+def call_name(node):
+    if isinstance(node, ast.Call) and isinstance(node.func, ast.Name):
+        return node.func.id
+    if isinstance(node, ast.Call) and isinstance(node.func, ast.Attribute):
+        return node.func.attr
+    return None
+
+
+def call_breaches(tree):
+    iterated = set()
+    for node in ast.walk(tree):
+        if isinstance(node, (ast.For, ast.comprehension)):
+            iterated.add(id(node.iter))
+        if call_name(node) in TAKES_AT_ONCE:
+            iterated.update(id(part) for part in node.args)
+    for node in ast.walk(tree):
+        if call_name(node) in AT_ONCE and id(node) not in iterated:
+            yield node.lineno, f"L23 {call_name(node)} is not iterated at once"
+        if isinstance(node, ast.Call) and isinstance(node.func, ast.Name) and hasattr(builtins, node.func.id):
+            for keyword in node.keywords:
+                if keyword.arg not in KEYWORDS.get(node.func.id, ()):
+                    yield node.lineno, f"L22 keyword {keyword.arg} of {node.func.id}"
+
+
+def state_breaches(tree):
+    """L15: a list or dict at module level is only read."""
+    tables = {
+        node.targets[0].id for node in tree.body
+        if isinstance(node, ast.Assign) and isinstance(node.value, (ast.List, ast.Dict))
+    }
+    right = set()
+    for node in ast.walk(tree):
+        if isinstance(node, ast.Subscript) and isinstance(node.ctx, ast.Load):
+            right.add(id(node.value))
+        if isinstance(node, ast.Compare):
+            right.update(id(part) for part in node.comparators)
+        if isinstance(node, (ast.For, ast.comprehension)):
+            right.add(id(node.iter))
+    for node in ast.walk(tree):
+        if isinstance(node, ast.Name) and isinstance(node.ctx, ast.Load) and node.id in tables:
+            if id(node) not in right:
+                yield node.lineno, f"L15 {node.id} is more than read"
 
 
 def code_breaches(tree):
@@ -157,14 +274,19 @@ def cycle_breaches():
             del needs[name]
 
 
+CHECKS = (
+    module_breaches, name_breaches, attribute_breaches, call_breaches, state_breaches, code_breaches,
+)
+
+
 def main():
-    breaches = [(PACKAGE, *breach) for breach in cycle_breaches()]
+    breaches = [(PACKAGE, *breach) for check in (cycle_breaches, clash_breaches) for breach in check()]
     for path in sorted(PACKAGE.iterdir()):
         if path.name == "__pycache__":
             continue
         text = path.read_text(encoding="utf-8")
         tree = ast.parse(text)
-        for check in (module_breaches, name_breaches, code_breaches):
+        for check in CHECKS:
             breaches += [(path, *breach) for breach in check(tree)]
         breaches += [(path, *breach) for breach in text_breaches(path, text)]
     for path, line, words in breaches:

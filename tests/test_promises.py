@@ -9,6 +9,8 @@ import unittest
 from tests import samples
 from tests.refusal import refused
 from tumblemarks import errors
+from tumblemarks.desk import Desk
+from tumblemarks.table import Table
 
 CORNER = samples.CORNER
 HOME = ((0, 0), samples.LYING)
@@ -58,6 +60,14 @@ FUNCTIONS = {
     ("mending", "left_out"): {"floor": CORNER, "cell": (0, 0), "row": "nes"},
     ("mending", "mends"): {"floor": CORNER, "cell": (0, 0), "row": "nes", "thing": (1,)},
     ("mending", "cells_more"): {"floor": CORNER, "cell": (0, 0), "row": "nes"},
+    ("turned", "turned_floor"): {"floor": CORNER, "word": "left"},
+    ("turned", "turned_stand"): {"floor": CORNER, "word": "left", "stand": HOME},
+    ("turned", "turned_row"): {"word": "mirror", "row": "nesw"},
+    ("turned", "turned_spots"): {"floor": CORNER, "word": "mirror"},
+    ("texts", "floor_text"): {"floor": CORNER},
+    ("texts", "stand_text"): {"floor": CORNER, "stand": NORTH},
+    ("texts", "marks_text"): {"floor": CORNER, "marks": MARKS},
+    ("texts", "read_floor"): {"text": "floor 0,0 0,1 1,0"},
 }
 
 ANSWERS = {
@@ -97,6 +107,14 @@ ANSWERS = {
     ("mending", "left_out"): (1,),
     ("mending", "mends"): True,
     ("mending", "cells_more"): ((1, 1),),
+    ("turned", "turned_floor"): ((2, 0), (3, 0), (3, 1)),
+    ("turned", "turned_stand"): ((3, 0), (0, 2, 4)),
+    ("turned", "turned_row"): "nwse",
+    ("turned", "turned_spots"): (0, 1, 3, 2, 4, 5, 7, 8, 6),
+    ("texts", "floor_text"): "floor 0,0 0,1 1,0",
+    ("texts", "stand_text"): "0,1 152",
+    ("texts", "marks_text"): "100 107 114 121 128 135 142 149 156",
+    ("texts", "read_floor"): CORNER,
 }
 
 # Of each function what it refuses, in the interface's order: the argument, the error, and wrong things.
@@ -127,6 +145,8 @@ STOPPED = (((0, "n"),), ((0, "s"), (1, "w")), ((0, "s"), (0, "e")), TURNS + ((0,
 STOP = ("turns", "NotLet", STOPPED)
 ONE_STOP = ("one", "NotLet", STOPPED)
 OTHER_STOP = ("other", "NotLet", STOPPED)
+WORD = ("word", "NoWord", (None, "", "right", "Left", ["left"], ("mirror",), 0))
+TEXT = ("text", "NoText", (None, "", "floor", "floor 0,1 0,0", "floor 0,4", "floor  0,0", ["floor 0,0"], CORNER))
 REFUSALS = {
     ("floors", "lying_behind"): (LYING, LETTER),
     ("floors", "first_off"): (FLOOR, CELL, ROW),
@@ -162,6 +182,14 @@ REFUSALS = {
     ("mending", "left_out"): (FLOOR, CELL, ROW),
     ("mending", "mends"): (FLOOR, CELL, ROW),
     ("mending", "cells_more"): (FLOOR, CELL, ROW),
+    ("turned", "turned_floor"): (FLOOR, WORD),
+    ("turned", "turned_stand"): (FLOOR, WORD, STAND),
+    ("turned", "turned_row"): (WORD, ROW),
+    ("turned", "turned_spots"): (FLOOR, WORD),
+    ("texts", "floor_text"): (FLOOR,),
+    ("texts", "stand_text"): (FLOOR, STAND),
+    ("texts", "marks_text"): (FLOOR, SHORT),
+    ("texts", "read_floor"): (TEXT,),
 }
 
 # Of some arguments what is among the things of many kinds, and right.
@@ -264,6 +292,11 @@ class ToldAndHandedIn(unittest.TestCase):
         told += [found(("wishes", "bring"))(samples.SQUARE, HOME, 0, 3), found(("wishes", "bring"))(CORNER, HOME, 2, 0)]
         told += [found(("looks", "looked"))(CORNER, HOME, "n", ((0, (0, 0), 1), (1, (0, 0), 2)))]
         told += [part for thing in told if type(thing) is tuple for part in thing]
+        table = Table(CORNER, *HOME, MARKS)
+        table.play("nsew", 1000000000000)
+        desk = Desk()
+        told += [table, table.twin(), table.marks(), table.rolls(), (table,), ("row", table), ("never", (table,))]
+        told += [desk.say(line) for line in ("floor 0,0 0,1 1,0", "stand", "marks", "rolls", "round ns", "bring 0 3")]
         for name, right in FUNCTIONS.items():
             kinds = tuple(getattr(errors, kind) for _, kind, _ in REFUSALS.get(name, ()))
             for argument in right:

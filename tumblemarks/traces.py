@@ -71,7 +71,7 @@ def how_many(floor, pair, turns):
     """Tell how many turns come of turns that are let, themselves too."""
     need_taken(floor, pair, turns)
     waited = waits(pair, turns)
-    # Of how many orders lead to so many turns done of each cube; too many to list, but the numbers are few.
+    # How many orders lead to so many turns of each cube: the orders may be too many to list, such numbers are few.
     ways = {(0, 0): 1}
     for one in range(len(waited[0]) + 1):
         for other in range(len(waited[1]) + 1):
