@@ -5,7 +5,7 @@ from tumblemarks.floors import LAST_LINE, OPPOSITE_SUM, need_floor, need_row, ne
 from tumblemarks.marks import FACES, spot_of_cell
 
 LEFT = "left"
-WORDS = (LEFT, "mirror")
+WORDS = ("left", "mirror")
 LEFT_LETTERS = {"n": "w", "e": "n", "s": "e", "w": "s"}
 MIRROR_LETTERS = {"n": "n", "e": "w", "s": "s", "w": "e"}
 # A mirrored cube is one that rolls can make of (0, 1, 2) only if two opposite faces change their numbers.
